@@ -1,0 +1,1 @@
+"""Slabroom: things of a few sizes on shelves of their own."""
