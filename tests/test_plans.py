@@ -6,6 +6,7 @@ import unittest
 from slabroom import plans
 from slabroom.errors import BadPlan, BadWish, NoSize, TooLarge
 from slabroom.plans import Plan
+from tests.helper import NO_WHOLE_NUMBERS, RefusalCase, VERY_GREAT, told
 
 # Pages, length and sizes of good plans, the edges among them.
 GOOD = (
@@ -21,35 +22,12 @@ GOOD = (
     (40, 60, [1, 2, 5, 9, 20, 31, 59, 60]),
 )
 
-NO_WHOLE_NUMBERS = (True, False, "", "1", "three", None, 2.5, [1], (1,))
-
-VERY_GREAT = 10 ** 6000
-
-
-def told(value):
-    """What is shown of a value where a test fails: Python does not write out every great number."""
-    if value == VERY_GREAT or value == -VERY_GREAT:
-        return "a very great number, or as much below 0"
-    return repr(value)
-
 
 def good_plans():
     return [Plan(pages, length, list(sizes)) for pages, length, sizes in GOOD]
 
 
-class PlanCase(unittest.TestCase):
-
-    def assert_refused(self, kind, call, *given):
-        """The call is refused with just this class, not with one under it."""
-        try:
-            answer = call(*given)
-        except Exception as error:
-            self.assertIs(type(error), kind, repr(error)[:200])
-        else:
-            self.fail("not refused: " + told(answer))
-
-
-class Interface(PlanCase):
+class Interface(RefusalCase):
 
     def test_the_mosts(self):
         self.assertEqual((plans.MOST_PAGES, plans.MOST_LENGTH, plans.MOST_SIZES), (40, 60, 8))
@@ -73,7 +51,7 @@ class Interface(PlanCase):
         self.assertEqual(plan.per(size=4), 2)
 
 
-class GoodPlans(PlanCase):
+class GoodPlans(RefusalCase):
 
     def test_the_fields(self):
         for pages, length, sizes in GOOD:
@@ -133,7 +111,7 @@ class GoodPlans(PlanCase):
         self.assertEqual(other.sizes, [2, 3, 8])
 
 
-class BadPlans(PlanCase):
+class BadPlans(RefusalCase):
 
     def test_pages(self):
         for pages in (0, -1, -40, 41, 42, VERY_GREAT, -VERY_GREAT) + NO_WHOLE_NUMBERS:
@@ -194,7 +172,7 @@ class BadPlans(PlanCase):
                 self.assertEqual(repr(handed), repr(sizes))
 
 
-class SizeFor(PlanCase):
+class SizeFor(RefusalCase):
 
     def test_the_least_size_that_is_no_less(self):
         for plan in good_plans():
@@ -223,7 +201,7 @@ class SizeFor(PlanCase):
                 self.assert_refused(BadWish, plan.size_for, wish)
 
 
-class Per(PlanCase):
+class Per(RefusalCase):
 
     def test_the_slots_that_go_in_whole(self):
         for plan in good_plans():
@@ -264,7 +242,7 @@ class Per(PlanCase):
         self.assert_refused(NoSize, plan.per, True)
 
 
-class Refusals(PlanCase):
+class Refusals(RefusalCase):
 
     def test_what_is_refused_changes_no_plan(self):
         for pages, length, sizes in GOOD:
